@@ -51,8 +51,10 @@ func TestP1EveryCallEnds(t *testing.T) {
 		for _, n := range oddNumbers {
 			meter.Fill(m, n)
 		}
-		meter.Split(m, someTariff())
-		meter.Bill(m, someTariff())
+		for _, u := range oddTariffs() {
+			meter.Split(m, u)
+			meter.Bill(m, u)
+		}
 	}
 	good := meter.Meter{Step: 60, Values: someValues(7)}
 	for _, u := range oddTariffs() {
@@ -97,6 +99,51 @@ func TestP1AnErrorStandsAlone(t *testing.T) {
 		if e == meter.OK && at != 0 {
 			t.Errorf("ReadTariff(%.40q) has place %d beside OK", s, at)
 		}
+	}
+}
+
+func TestP1AnErrorOfTheReadsStandsAlone(t *testing.T) {
+	for _, m := range oddMeters() {
+		for _, n := range oddNumbers {
+			values, e, at := meter.Fill(m, n)
+			if (e == meter.OK && (at != 0 || len(values) != len(m.Values))) || (e != meter.OK && len(values) > 0) {
+				t.Errorf("Fill(%.60v, %d) = %.60v, %d, %d", m, n, values, e, at)
+			}
+		}
+		for _, u := range oddTariffs() {
+			periods, e, at := meter.Split(m, u)
+			if (e == meter.OK) != (len(periods) > 0) || (e == meter.OK && at != 0) {
+				t.Errorf("Split(%.60v, %+v) = %v, %d, %d", m, u, periods, e, at)
+			}
+		}
+	}
+}
+
+func TestP1TheReadsStayAsTheyWere(t *testing.T) {
+	values := someValues(200)
+	m := meter.Meter{Step: 15, Start: 6000, Values: values[:199]}
+	u := someTariff()
+	filled, e, _ := meter.Fill(m, 1)
+	periods, e2, _ := meter.Split(m, u)
+	if e != meter.OK || e2 != meter.OK {
+		t.Fatalf("Fill: %d, Split: %d", e, e2)
+	}
+	if !reflect.DeepEqual(values, someValues(200)) || u != someTariff() {
+		t.Errorf("Fill or Split changed an argument")
+	}
+	meter.Fill(meter.Meter{Step: 60, Values: someValues(3)}, 8)
+	meter.Split(meter.Meter{Step: 60, Values: someValues(3)}, meter.Tariff{})
+	again, _, _ := meter.Fill(m, 1)
+	periodsAgain, _, _ := meter.Split(m, u)
+	if !reflect.DeepEqual(filled, again) || !reflect.DeepEqual(periods, periodsAgain) {
+		t.Errorf("Fill or Split answers otherwise the second time")
+	}
+	for i := range filled {
+		filled[i] = meter.Value{In: 77, Missing: true}
+	}
+	periods[0] = meter.Period{}
+	if !reflect.DeepEqual(values, someValues(200)) || again[0].Missing || periodsAgain[0] == periods[0] {
+		t.Errorf("an answer of Fill or Split shares memory")
 	}
 }
 

@@ -82,12 +82,6 @@ type Line struct {
 
 // The calls from here on belong to promises that are still to come.
 
-// Fill fills what is missing (P8).
-func Fill(m Meter, gap int) ([]Value, Errno, int) { return nil, OK, 0 }
-
-// Split adds up periods and classes (P9).
-func Split(m Meter, t Tariff) ([]Period, Errno, int) { return nil, OK, 0 }
-
 // Bill prices the periods (P10 to P12).
 func Bill(m Meter, t Tariff) ([]Line, Errno, int) { return nil, OK, 0 }
 
