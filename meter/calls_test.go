@@ -1,7 +1,9 @@
 package meter_test
 
 import (
+	"math/rand"
 	"reflect"
+	"slices"
 	"strings"
 	"testing"
 	"unsafe"
@@ -41,8 +43,18 @@ func oddTariffs() []meter.Tariff {
 
 func oddTexts() []string {
 	texts := []string{"", "\x00", "\n", "-", "T", "T 0 0\n", "\xff\xfe", strings.Repeat("9", 8000), strings.Repeat("H 15 0\n", 1000), strings.Repeat("-\n", 4000), strings.Repeat("A", 100000), "P 0 0\n"}
+	texts = append(texts, strings.Repeat("9", 80000), strings.Repeat("P 0 0", 16000), strings.Repeat("P", 100000), billText(someLines(200)), billText(someLines(201)))
 	texts = append(texts, variants("H 15 0\n1 2\n-\nT 2 3\n")...)
+	texts = append(texts, variants(billText(someLines(1)))...)
 	return append(texts, tariffText(someTariff()))
+}
+
+func oddBills() [][]meter.Line {
+	bills := [][]meter.Line{nil, {}, make([]meter.Line, 200), make([]meter.Line, 1000), make([]meter.Line, 1000000)}
+	for _, n := range oddNumbers {
+		bills = append(bills, []meter.Line{{Out: n, Total: n}}, []meter.Line{{}, {In: [3]int{n, n, n}}})
+	}
+	return bills
 }
 
 func TestP1EveryCallEnds(t *testing.T) {
@@ -71,15 +83,17 @@ func TestP1EveryCallEnds(t *testing.T) {
 			meter.Day(n, k, 1)
 			meter.Day(2000, n, k)
 		}
-		meter.PrintBill([]meter.Line{{Out: n, Total: n}})
 	}
-	meter.PrintBill(nil)
-	meter.PrintBill(make([]meter.Line, 1000))
+	for _, l := range oddBills() {
+		meter.PrintBill(l)
+	}
 	for _, s := range oddTexts() {
 		meter.ReadMeter(s)
 		meter.ReadTariff(s)
 		meter.ReadBill(s)
 		meter.Run(s, s)
+		meter.Run(s, tariffText(someTariff()))
+		meter.Run(meterText(15, 0, someValues(3)), s)
 	}
 }
 
@@ -116,6 +130,67 @@ func TestP1AnErrorOfTheReadsStandsAlone(t *testing.T) {
 				t.Errorf("Split(%.60v, %+v) = %v, %d, %d", m, u, periods, e, at)
 			}
 		}
+	}
+}
+
+func TestP1AnErrorOfTheBillStandsAlone(t *testing.T) {
+	for _, m := range oddMeters() {
+		for _, u := range oddTariffs() {
+			lines, e, at := meter.Bill(m, u)
+			if (e == meter.OK) != (len(lines) > 0) || (e == meter.OK && at != 0) {
+				t.Errorf("Bill(%.60v, %+v) = %v, %d, %d", m, u, lines, e, at)
+			}
+		}
+	}
+	for _, s := range oddTexts() {
+		lines, e, at := meter.ReadBill(s)
+		if (e != meter.OK && len(lines) > 0) || (e == meter.OK && at != 0) {
+			t.Errorf("ReadBill(%.40q) = %v, %d, %d", s, lines, e, at)
+		}
+		for _, pair := range [][2]string{{s, s}, {s, tariffText(someTariff())}, {meterText(15, 0, someValues(3)), s}} {
+			text, e, at := meter.Run(pair[0], pair[1])
+			if (e == meter.OK) != (text != "") || (e == meter.OK && at != 0) {
+				t.Errorf("Run(%.40q, %.40q) = %.40q, %d, %d", pair[0], pair[1], text, e, at)
+			}
+		}
+	}
+}
+
+func TestP1TheBillKeepsNothing(t *testing.T) {
+	r := rand.New(rand.NewSource(1))
+	values := daily(use{1, 2, 3, 40000}, use{500, 6, 7, 8}, use{900, 10, 11, 12}).Values
+	m := meter.Meter{Step: 60, Start: 6000, Values: values[:len(values)-1]}
+	u := someTariff()
+	u.Days = 1
+	same, sameTariff := slices.Clone(values), u
+	first, e, _ := meter.Bill(m, u)
+	if e != meter.OK || len(first) < 3 || first[0].Bank == 0 {
+		t.Fatalf("Bill: %v, %d", first, e)
+	}
+	for turn := 0; turn < 20; turn++ {
+		other := randomPrices(r)
+		meter.Bill(randomReads(r, other.Zone), other)
+		meter.ReadBill(billText(someLines(turn)))
+	}
+	again, _, _ := meter.Bill(m, u)
+	if !reflect.DeepEqual(first, again) {
+		t.Errorf("Bill answers otherwise the second time")
+	}
+	text := meter.PrintBill(first)
+	if !reflect.DeepEqual(first, again) || meter.PrintBill(first) != text {
+		t.Errorf("PrintBill changed its argument or its answer")
+	}
+	for i := range first {
+		first[i] = meter.Line{}
+	}
+	if !reflect.DeepEqual(values, same) || u != sameTariff || again[0].Bank == 0 {
+		t.Errorf("Bill changed an argument, or its answers share memory")
+	}
+	one, _, _ := meter.ReadBill(text)
+	two, _, _ := meter.ReadBill(text)
+	one[0].Bank = -1
+	if !reflect.DeepEqual(two, again) {
+		t.Errorf("two answers of ReadBill share their lines")
 	}
 }
 

@@ -79,17 +79,3 @@ type Line struct {
 	Applied, Expired, Paid, Bank int
 	Sum, Tax, Total              int
 }
-
-// The calls from here on belong to promises that are still to come.
-
-// Bill prices the periods (P10 to P12).
-func Bill(m Meter, t Tariff) ([]Line, Errno, int) { return nil, OK, 0 }
-
-// PrintBill writes a bill (P13).
-func PrintBill(l []Line) string { return "" }
-
-// ReadBill reads a bill (P13).
-func ReadBill(text string) ([]Line, Errno, int) { return nil, OK, 0 }
-
-// Run answers the bill of two texts (P14).
-func Run(reads string, tariff string) (string, Errno, int) { return "", OK, 0 }

@@ -31,9 +31,19 @@ func (s *scanner) take(c byte) {
 	s.bad = true
 }
 
-// number leaves a digit too many where it stands: whatever part comes next
-// does not begin with a digit, and so finds the fault at the right place.
+func (s *scanner) word(w string) {
+	for i := 0; i < len(w); i++ {
+		s.take(w[i])
+	}
+}
+
 func (s *scanner) number() int {
+	return s.numberUpTo(maxDigits)
+}
+
+// numberUpTo leaves a digit too many where it stands: whatever part comes next
+// does not begin with a digit, and so finds the fault at the right place.
+func (s *scanner) numberUpTo(most int) int {
 	if s.sees('0') {
 		s.at++
 		return 0
@@ -43,7 +53,7 @@ func (s *scanner) number() int {
 		return 0
 	}
 	n := 0
-	for digits := 0; digits < maxDigits && s.seesDigit(); digits++ {
+	for digits := 0; digits < most && s.seesDigit(); digits++ {
 		n = n*10 + int(s.text[s.at]-'0')
 		s.at++
 	}
